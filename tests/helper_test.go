@@ -26,11 +26,16 @@ func spansOf(v reflect.Value, arg bool, out []span) []span {
 			size := uintptr(v.Cap()) * v.Type().Elem().Size()
 			out = append(out, span{v.Pointer(), v.Pointer() + size, arg})
 		}
-		for i := range v.Len() {
+		for i := 0; i < v.Len() && hasSlices(v.Type().Elem()); i++ {
 			out = spansOf(v.Index(i), arg, out)
 		}
 	}
 	return out
+}
+
+// hasSlices spares a walk over each byte of a disk.
+func hasSlices(t reflect.Type) bool {
+	return t.Kind() == reflect.Struct || t.Kind() == reflect.Slice
 }
 
 // checkApart fails when two lists of the answers share memory, or one with an argument.
@@ -74,6 +79,10 @@ func deepCopyValue(v reflect.Value) reflect.Value {
 			return c
 		}
 		c.Set(reflect.MakeSlice(v.Type(), v.Len(), v.Len()))
+		if !hasSlices(v.Type().Elem()) {
+			reflect.Copy(c, v)
+			return c
+		}
 		for i := range v.Len() {
 			c.Index(i).Set(deepCopyValue(v.Index(i)))
 		}
